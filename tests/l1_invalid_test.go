@@ -34,7 +34,20 @@ func TestInvalidCases(t *testing.T) {
 	}
 }
 
-// The other arguments are as they would be for a case, so that only the case itself can be the reason.
+// likelyAwards returns rows for a value that is no case, as they would be awards if it were one, so that only the case itself can be the reason.
+func likelyAwards(c impl.Case) [][]int {
+	claims := make([]int, len(c.Claims))
+	for i, claim := range c.Claims {
+		claims[i] = impl.Parts * claim
+	}
+	first := make([]int, len(c.Claims))
+	if len(first) > 0 {
+		first[0] = impl.Parts * c.Estate
+	}
+	return [][]int{nil, make([]int, len(c.Claims)), claims, first}
+}
+
+// The order is as it would be for a case, too.
 func TestInvalidCasesWithOrdersAndAwards(t *testing.T) {
 	for _, c := range invalidCases() {
 		order := make([]int, len(c.Claims))
@@ -43,15 +56,7 @@ func TestInvalidCasesWithOrdersAndAwards(t *testing.T) {
 		}
 		named, ok := impl.NamedCase(c, order)
 		wantNoCase(t, "named", c, named, ok)
-		claims := make([]int, len(c.Claims))
-		for i, claim := range c.Claims {
-			claims[i] = impl.Parts * claim
-		}
-		first := make([]int, len(c.Claims))
-		if len(first) > 0 {
-			first[0] = impl.Parts * c.Estate
-		}
-		for _, row := range [][]int{nil, make([]int, len(c.Claims)), claims, first} {
+		for _, row := range likelyAwards(c) {
 			if impl.AwardsOk(c, row) {
 				t.Fatal("awards", c, row)
 			}
@@ -84,11 +89,14 @@ func TestInvalidOrders(t *testing.T) {
 	}
 }
 
-func TestInvalidAwards(t *testing.T) {
-	for _, r := range []struct {
-		of   impl.Case
-		rows [][]int
-	}{
+// noAwards has a case, and rows that are not its awards.
+type noAwards struct {
+	of   impl.Case
+	rows [][]int
+}
+
+func invalidAwards() []noAwards {
+	return []noAwards{
 		{caseOf(5, 2, 4, 6), [][]int{
 			nil, {}, {240}, {48, 96}, {96, 144}, {48, 96, 96, 0}, {0, 0, 0, 240}, make([]int, 1000),
 			{48, 96, 95}, {48, 96, 97}, {0, 0, 0}, {1, 2, 2}, {2, 4, 6}, {96, 192, 288},
@@ -103,7 +111,11 @@ func TestInvalidAwards(t *testing.T) {
 		{caseOf(48, 12, 12, 12, 12), [][]int{
 			{576, 576, 576}, {576, 576, 576, 575}, {577, 576, 576, 575}, {576, 576, 576, 576, 0}, {577, 577, 577, 573},
 		}},
-	} {
+	}
+}
+
+func TestInvalidAwards(t *testing.T) {
+	for _, r := range invalidAwards() {
 		for _, row := range r.rows {
 			if impl.AwardsOk(r.of, row) {
 				t.Fatal("awards", r.of, row)

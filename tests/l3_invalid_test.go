@@ -1,0 +1,78 @@
+package tests
+
+import (
+	"math"
+	"testing"
+
+	"loop.example/shortestates/impl"
+)
+
+func wantNoAwards(t *testing.T, c impl.Case, row []int) {
+	t.Helper()
+	if impl.KeepsOrder(c, row) || impl.RatesRise(c, row) || impl.RatesFall(c, row) {
+		t.Fatal(c, row, impl.KeepsOrder(c, row), impl.RatesRise(c, row), impl.RatesFall(c, row))
+	}
+	if x := impl.WholeAwards(c, row); x != nil {
+		t.Fatal(c, row, x)
+	}
+}
+
+func TestInvalidCasesOfChapter3(t *testing.T) {
+	for _, c := range invalidCases() {
+		if x := impl.ShareRow(c); x != nil {
+			t.Fatal("shares", c, x)
+		}
+		if x := impl.WholeShares(c); x != nil {
+			t.Fatal("whole shares", c, x)
+		}
+		for _, row := range likelyAwards(c) {
+			wantNoAwards(t, c, row)
+		}
+	}
+}
+
+// The rows that are listed here would keep the order, and have rates that rise and fall, if they were awards.
+func TestInvalidAwardsOfChapter3(t *testing.T) {
+	for _, r := range invalidAwards() {
+		for _, row := range r.rows {
+			wantNoAwards(t, r.of, row)
+		}
+	}
+	for _, r := range []noAwards{
+		{caseOf(6, 2, 4, 6), [][]int{{0, 0, 0}, {96, 192, 288}, {47, 94, 141}, {49, 98, 147}, {48, 96}, {48, 96, 144, 0}}},
+		{caseOf(2, 2, 2), [][]int{{47, 47}, {49, 49}, {48}, {48, 48, 0}, {-48, -48}, {1<<32 + 48, 1<<32 + 48}, {math.MinInt + 48, math.MinInt + 48}}},
+		{caseOf(0, 0, 0, 0, 0), [][]int{{1, 1, 1, 1}, {-1, -1, -1, -1}, {0, 0, 0}, {0, 0, 0, 0, 0}, {1 << 62, 1 << 62, 1 << 62, 1 << 62}}},
+	} {
+		for _, row := range r.rows {
+			wantNoAwards(t, r.of, row)
+		}
+	}
+}
+
+// Rows of drawn numbers, most of them of no use, are given to all functions.
+func TestNoArgumentPanicsInChapter3(t *testing.T) {
+	defer mustPanicNot(t, "chapter 3")
+	numbers := []int{math.MinInt, -1 << 32, -13, -1, 0, 0, 1, 2, 3, 4, 5, 12, 13, 48, 96, 1 << 32, 1 << 62, math.MaxInt}
+	d := draws(24)
+	drawn := func() []int {
+		row := make([]int, d.below(7))
+		for i := range row {
+			row[i] = numbers[d.below(len(numbers))]
+		}
+		return row
+	}
+	for range 200000 {
+		c := caseOf(numbers[d.below(len(numbers))], drawn()...)
+		row := drawn()
+		ok := impl.CaseOk(c)
+		if (len(impl.ShareRow(c)) > 0) != ok || (len(impl.WholeShares(c)) > 0) != ok {
+			t.Fatal(c, ok)
+		}
+		if !impl.AwardsOk(c, row) {
+			wantNoAwards(t, c, row)
+			continue
+		}
+		checkOrder(t, c, row)
+		checkWhole(t, c, row)
+	}
+}

@@ -1,0 +1,88 @@
+package tests
+
+import (
+	"slices"
+	"testing"
+
+	"loop.example/shortestates/impl"
+)
+
+// shareRowsOf calls all functions of chapter 3 that return rows, and returns these.
+func shareRowsOf(c impl.Case, awards []int) [][]int {
+	return [][]int{impl.ShareRow(c), impl.WholeAwards(c, awards), impl.WholeShares(c)}
+}
+
+// reportsOf returns what the functions of chapter 3 report of awards.
+func reportsOf(c impl.Case, awards []int) [3]bool {
+	return [3]bool{impl.KeepsOrder(c, awards), impl.RatesRise(c, awards), impl.RatesFall(c, awards)}
+}
+
+// Spoiled results change neither arguments nor other results, and arguments that change later change no results.
+func TestSharesAreNewMemory(t *testing.T) {
+	for _, r := range []struct {
+		of     impl.Case
+		awards []int
+	}{
+		{caseOf(7, 6, 2, 4), []int{208, 16, 112}}, {caseOf(1, 6, 2, 4), []int{0, 0, 48}},
+		{caseOf(0, 0), []int{0}}, {caseOf(0, 6, 2, 4), []int{0, 0, 0}}, {caseOf(12, 6, 2, 4), []int{288, 96, 192}},
+		{caseOf(48, 12, 12, 12, 12), []int{576, 576, 576, 576}}, {caseOf(3, 6, 0, 6, 6), []int{47, 0, 49, 48}},
+		{caseOf(1, 12), []int{48}}, {caseOf(1, 1), []int{48}},
+	} {
+		claims, memoryOfClaims := guarded(r.of.Claims...)
+		awards, memoryOfAwards := guarded(r.awards...)
+		args := [][]int{memoryOfClaims, memoryOfAwards}
+		before := cloneRows(args)
+		c := caseOf(r.of.Estate, claims...)
+		want := cloneRows(shareRowsOf(copyOf(c), slices.Clone(awards)))
+		reports := reportsOf(c, awards)
+		first, second := shareRowsOf(c, awards), shareRowsOf(c, awards)
+		for i := range first {
+			if len(first[i]) != len(claims) || !slices.Equal(first[i], want[i]) {
+				t.Fatal(r, i, first[i], want[i])
+			}
+			spoil(first[i])
+		}
+		for i := range args {
+			if !slices.Equal(args[i], before[i]) {
+				t.Fatal("an argument is written to", r, i, args[i])
+			}
+		}
+		if reportsOf(c, awards) != reports {
+			t.Fatal("called again", r, reports)
+		}
+		for i := range args {
+			spoil(args[i])
+		}
+		for i := range second {
+			if !slices.Equal(second[i], want[i]) {
+				t.Fatal("a result shares memory", r, i, second[i], want[i])
+			}
+		}
+	}
+}
+
+// No call writes to its arguments, whatever they are, nor returns anything else when called again.
+func TestArgumentsOfChapter3Stay(t *testing.T) {
+	d := draws(23)
+	for _, c := range append(validCases(), invalidCases()...) {
+		before := copyOf(c)
+		awards := []int{48 * d.below(3), 48 * d.below(3), 48 * d.below(3)}
+		if impl.CaseOk(c) {
+			awards = drawnAwards(&d, c)
+		}
+		awardsBefore := slices.Clone(awards)
+		first, reports := shareRowsOf(c, awards), reportsOf(c, awards)
+		second := shareRowsOf(c, awards)
+		if !sameCase(c, before) || !slices.Equal(awards, awardsBefore) {
+			t.Fatal("an argument is written to", before, c, awardsBefore, awards)
+		}
+		for i := range first {
+			if !slices.Equal(first[i], second[i]) {
+				t.Fatal("called again", c, awards, first[i], second[i])
+			}
+		}
+		if reports != reportsOf(c, awards) {
+			t.Fatal("called again", c, awards, reports)
+		}
+	}
+}
