@@ -31,7 +31,7 @@ func TestInvalidCasesOfChapter3(t *testing.T) {
 	}
 }
 
-// The rows that are listed here would keep the order, and have rates that rise and fall, if they were awards.
+// The rows that are listed here would have rates that rise, or fall, if they were awards, and most of them would keep the order.
 func TestInvalidAwardsOfChapter3(t *testing.T) {
 	for _, r := range invalidAwards() {
 		for _, row := range r.rows {
@@ -41,6 +41,9 @@ func TestInvalidAwardsOfChapter3(t *testing.T) {
 	for _, r := range []noAwards{
 		{caseOf(6, 2, 4, 6), [][]int{{0, 0, 0}, {96, 192, 288}, {47, 94, 141}, {49, 98, 147}, {48, 96}, {48, 96, 144, 0}}},
 		{caseOf(2, 2, 2), [][]int{{47, 47}, {49, 49}, {48}, {48, 48, 0}, {-48, -48}, {1<<32 + 48, 1<<32 + 48}, {math.MinInt + 48, math.MinInt + 48}}},
+		{caseOf(1, 1, 1), [][]int{{10, 37}, {10, 39}, {49, -1}, {-1, 49}, {10}, {10, 38, 0}, {10, 1<<32 + 38}, {math.MaxInt, math.MinInt + 49}}},
+		{caseOf(19, 11, 11, 11), [][]int{{54, 529, 329}, {54, 528, 331}, {-54, 528, 438}, {54, 528}, {54, 528, 330, 0}}},
+		{caseOf(4, 1, 3, 3), [][]int{{24, 72, 97}, {24, 72, 95}, {11, 36, 145}, {24, 168}, {48, 72, 73}, {49, 72, 71}}},
 		{caseOf(0, 0, 0, 0, 0), [][]int{{1, 1, 1, 1}, {-1, -1, -1, -1}, {0, 0, 0}, {0, 0, 0, 0, 0}, {1 << 62, 1 << 62, 1 << 62, 1 << 62}}},
 	} {
 		for _, row := range r.rows {

@@ -23,12 +23,12 @@ func keptByDefinition(c impl.Case, awards []int) bool {
 	return true
 }
 
-// ratesByDefinition tells anew, by fractions, whether the parts of the claims that are awarded rise with the claims, and whether they fall. Equal claims are to have equal parts; a claim of nothing has no part.
+// ratesByDefinition tells anew, by fractions, whether the parts of the claims that are awarded rise with the claims, and whether they fall. Of equal claims none is the greater one; a claim of nothing has no part.
 func ratesByDefinition(c impl.Case, awards []int) (rise, fall bool) {
 	rise, fall = true, true
 	for i, claim := range c.Claims {
 		for j, other := range c.Claims {
-			if claim == 0 || claim > other {
+			if claim == 0 || claim >= other {
 				continue
 			}
 			first, second := big.NewRat(int64(awards[i]), int64(claim)), big.NewRat(int64(awards[j]), int64(other))
@@ -71,8 +71,8 @@ func TestOrderAndRatesByHand(t *testing.T) {
 		{caseOf(7, 6, 2, 4), []int{208, 16, 112}, true, true, false},
 		{caseOf(7, 6, 2, 4), []int{120, 96, 120}, true, false, true},
 		{caseOf(1, 1, 1), []int{24, 24}, true, true, true},
-		{caseOf(1, 1, 1), []int{25, 23}, false, false, false},
-		{caseOf(1, 1, 1), []int{23, 25}, false, false, false},
+		{caseOf(1, 1, 1), []int{25, 23}, false, true, true},
+		{caseOf(1, 1, 1), []int{23, 25}, false, true, true},
 		{caseOf(1, 1, 2), []int{16, 32}, true, true, true},
 		{caseOf(1, 1, 2), []int{17, 31}, true, false, true},
 		{caseOf(1, 1, 2), []int{15, 33}, true, true, false},
@@ -85,14 +85,14 @@ func TestOrderAndRatesByHand(t *testing.T) {
 		{caseOf(12, 2, 4, 6), []int{96, 192, 288}, true, true, true},
 		{caseOf(5, 0, 9), []int{0, 240}, true, true, true},
 		{caseOf(5, 9, 0, 9), []int{120, 0, 120}, true, true, true},
-		{caseOf(5, 9, 0, 9), []int{121, 0, 119}, false, false, false},
+		{caseOf(5, 9, 0, 9), []int{121, 0, 119}, false, true, true},
 		{caseOf(0, 0), []int{0}, true, true, true},
 		{caseOf(0, 0, 0, 0, 0), []int{0, 0, 0, 0}, true, true, true},
 		{caseOf(7, 12), []int{336}, true, true, true},
 		{caseOf(12, 12), []int{576}, true, true, true},
 		{caseOf(48, 12, 12, 12, 12), []int{576, 576, 576, 576}, true, true, true},
 		{caseOf(1, 12, 12, 12, 12), []int{12, 12, 12, 12}, true, true, true},
-		{caseOf(1, 12, 12, 12, 12), []int{12, 12, 13, 11}, false, false, false},
+		{caseOf(1, 12, 12, 12, 12), []int{12, 12, 13, 11}, false, true, true},
 	} {
 		kept, rise, fall := impl.KeepsOrder(r.of, r.awards), impl.RatesRise(r.of, r.awards), impl.RatesFall(r.of, r.awards)
 		if kept != r.kept || rise != r.rise || fall != r.fall {
@@ -117,7 +117,11 @@ func checkOrder(t *testing.T, c impl.Case, awards []int) {
 	if rise != impl.RatesFall(other, losses) || fall != impl.RatesRise(other, losses) {
 		t.Fatal("rates of losses", c, awards, rise, fall)
 	}
-	if rise && fall {
+	alike := alikeForEqual(c, awards)
+	if kept && !alike {
+		t.Fatal("the order is kept, but not by equal claims", c, awards)
+	}
+	if rise && fall && alike {
 		checkShares(t, c, awards)
 	}
 }
