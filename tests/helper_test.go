@@ -124,6 +124,18 @@ func drawnAwards(d *draws, c impl.Case) []int {
 	return awards
 }
 
+// drawnNames returns a case with other places for the people, by a drawn order, and its awards at these places.
+func drawnNames(d *draws, c impl.Case, awards []int) (impl.Case, []int) {
+	orders := ordersOf(len(c.Claims))
+	order := orders[d.below(len(orders))]
+	named, _ := impl.NamedCase(c, order)
+	namedAwards := slices.Clone(awards)
+	for i, place := range order {
+		namedAwards[place] = awards[i]
+	}
+	return named, namedAwards
+}
+
 func mustPanicNot(t *testing.T, what string) {
 	if r := recover(); r != nil {
 		t.Fatalf("%s panicked: %v", what, r)

@@ -2,7 +2,6 @@ package tests
 
 import (
 	"math/big"
-	"slices"
 	"testing"
 
 	"loop.example/shortestates/impl"
@@ -187,17 +186,11 @@ func TestNamesChangeNoOrder(t *testing.T) {
 		if d.below(3) == 0 {
 			awards = impl.EvenLosses(c)
 		}
-		orders := ordersOf(len(c.Claims))
-		order := orders[d.below(len(orders))]
-		named, _ := impl.NamedCase(c, order)
-		namedAwards := slices.Clone(awards)
-		for i, place := range order {
-			namedAwards[place] = awards[i]
-		}
+		named, namedAwards := drawnNames(&d, c, awards)
 		if impl.KeepsOrder(c, awards) != impl.KeepsOrder(named, namedAwards) ||
 			impl.RatesRise(c, awards) != impl.RatesRise(named, namedAwards) ||
 			impl.RatesFall(c, awards) != impl.RatesFall(named, namedAwards) {
-			t.Fatal(c, awards, order)
+			t.Fatal(c, awards, named, namedAwards)
 		}
 	}
 }
