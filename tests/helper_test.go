@@ -136,6 +136,40 @@ func drawnNames(d *draws, c impl.Case, awards []int) (impl.Case, []int) {
 	return named, namedAwards
 }
 
+// drawnRow returns up to 6 numbers, each drawn out of some.
+func drawnRow(d *draws, numbers []int) []int {
+	row := make([]int, d.below(7))
+	for i := range row {
+		row[i] = numbers[d.below(len(numbers))]
+	}
+	return row
+}
+
+// checkNewMemory checks of a call that returns rows, one number for each person, that spoiled results change neither the memory of its arguments nor other results, and that arguments that change later change no results.
+func checkNewMemory(t *testing.T, what any, people int, memories [][]int, call func() [][]int) {
+	t.Helper()
+	before := cloneRows(memories)
+	want := cloneRows(call())
+	first, second := call(), call()
+	for i := range first {
+		if len(first[i]) != people || !slices.Equal(first[i], want[i]) {
+			t.Fatal(what, i, first[i], want[i])
+		}
+		spoil(first[i])
+	}
+	for i := range memories {
+		if !slices.Equal(memories[i], before[i]) {
+			t.Fatal("an argument is written to", what, i, memories[i])
+		}
+		spoil(memories[i])
+	}
+	for i := range second {
+		if !slices.Equal(second[i], want[i]) {
+			t.Fatal("a result shares memory", what, i, second[i], want[i])
+		}
+	}
+}
+
 func mustPanicNot(t *testing.T, what string) {
 	if r := recover(); r != nil {
 		t.Fatalf("%s panicked: %v", what, r)

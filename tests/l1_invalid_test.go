@@ -132,16 +132,9 @@ func TestNoArgumentPanics(t *testing.T) {
 	defer mustPanicNot(t, "chapter 1")
 	numbers := []int{math.MinInt, -1 << 32, -13, -1, 0, 0, 1, 2, 3, 4, 5, 12, 13, 48, 96, 1 << 32, math.MaxInt}
 	d := draws(1)
-	drawn := func() []int {
-		row := make([]int, d.below(7))
-		for i := range row {
-			row[i] = numbers[d.below(len(numbers))]
-		}
-		return row
-	}
 	for range 200000 {
-		c := caseOf(numbers[d.below(len(numbers))], drawn()...)
-		row := drawn()
+		c := caseOf(numbers[d.below(len(numbers))], drawnRow(&d, numbers)...)
+		row := drawnRow(&d, numbers)
 		ok := impl.CaseOk(c)
 		_, other := impl.OtherCase(c)
 		_, cut := impl.CutCase(c)

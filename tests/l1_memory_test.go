@@ -54,28 +54,9 @@ func TestResultsAreNewMemory(t *testing.T) {
 		claims, memoryOfClaims := guarded(r.of.Claims...)
 		order, memoryOfOrder := guarded(r.order...)
 		awards, memoryOfAwards := guarded(r.awards...)
-		args := [][]int{memoryOfClaims, memoryOfOrder, memoryOfAwards}
-		before := cloneRows(args)
 		c := caseOf(r.of.Estate, claims...)
-		want := cloneRows(rowsOf(copyOf(c), slices.Clone(order), slices.Clone(awards)))
-		first, second := rowsOf(c, order, awards), rowsOf(c, order, awards)
-		for i := range first {
-			if len(first[i]) != len(claims) || !slices.Equal(first[i], want[i]) {
-				t.Fatal(r, i, first[i], want[i])
-			}
-			spoil(first[i])
-		}
-		for i := range args {
-			if !slices.Equal(args[i], before[i]) {
-				t.Fatal("an argument is written to", r, i, args[i])
-			}
-			spoil(args[i])
-		}
-		for i := range second {
-			if !slices.Equal(second[i], want[i]) {
-				t.Fatal("a result shares memory", r, i, second[i], want[i])
-			}
-		}
+		memories := [][]int{memoryOfClaims, memoryOfOrder, memoryOfAwards}
+		checkNewMemory(t, r, len(claims), memories, func() [][]int { return rowsOf(c, order, awards) })
 	}
 }
 

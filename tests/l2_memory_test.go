@@ -24,28 +24,9 @@ func TestEvenRowsAreNewMemory(t *testing.T) {
 	} {
 		caseClaims, memoryOfCase := guarded(r.of.Claims...)
 		rowClaims, memoryOfRow := guarded(r.of.Claims...)
-		args := [][]int{memoryOfCase, memoryOfRow}
-		before := cloneRows(args)
 		c := caseOf(r.of.Estate, caseClaims...)
-		want := cloneRows(evenRowsOf(copyOf(c), slices.Clone(rowClaims), r.estate))
-		first, second := evenRowsOf(c, rowClaims, r.estate), evenRowsOf(c, rowClaims, r.estate)
-		for i := range first {
-			if len(first[i]) != len(caseClaims) || !slices.Equal(first[i], want[i]) {
-				t.Fatal(r, i, first[i], want[i])
-			}
-			spoil(first[i])
-		}
-		for i := range args {
-			if !slices.Equal(args[i], before[i]) {
-				t.Fatal("an argument is written to", r, i, args[i])
-			}
-			spoil(args[i])
-		}
-		for i := range second {
-			if !slices.Equal(second[i], want[i]) {
-				t.Fatal("a result shares memory", r, i, second[i], want[i])
-			}
-		}
+		memories := [][]int{memoryOfCase, memoryOfRow}
+		checkNewMemory(t, r, len(caseClaims), memories, func() [][]int { return evenRowsOf(c, rowClaims, r.estate) })
 	}
 }
 

@@ -57,16 +57,9 @@ func TestNoArgumentPanicsInChapter3(t *testing.T) {
 	defer mustPanicNot(t, "chapter 3")
 	numbers := []int{math.MinInt, -1 << 32, -13, -1, 0, 0, 1, 2, 3, 4, 5, 12, 13, 48, 96, 1 << 32, 1 << 62, math.MaxInt}
 	d := draws(24)
-	drawn := func() []int {
-		row := make([]int, d.below(7))
-		for i := range row {
-			row[i] = numbers[d.below(len(numbers))]
-		}
-		return row
-	}
 	for range 200000 {
-		c := caseOf(numbers[d.below(len(numbers))], drawn()...)
-		row := drawn()
+		c := caseOf(numbers[d.below(len(numbers))], drawnRow(&d, numbers)...)
+		row := drawnRow(&d, numbers)
 		ok := impl.CaseOk(c)
 		if (len(impl.ShareRow(c)) > 0) != ok || (len(impl.WholeShares(c)) > 0) != ok {
 			t.Fatal(c, ok)

@@ -30,34 +30,13 @@ func TestSharesAreNewMemory(t *testing.T) {
 	} {
 		claims, memoryOfClaims := guarded(r.of.Claims...)
 		awards, memoryOfAwards := guarded(r.awards...)
-		args := [][]int{memoryOfClaims, memoryOfAwards}
-		before := cloneRows(args)
 		c := caseOf(r.of.Estate, claims...)
-		want := cloneRows(shareRowsOf(copyOf(c), slices.Clone(awards)))
-		reports := reportsOf(c, awards)
-		first, second := shareRowsOf(c, awards), shareRowsOf(c, awards)
-		for i := range first {
-			if len(first[i]) != len(claims) || !slices.Equal(first[i], want[i]) {
-				t.Fatal(r, i, first[i], want[i])
-			}
-			spoil(first[i])
+		memories := [][]int{memoryOfClaims, memoryOfAwards}
+		before, reports := cloneRows(memories), reportsOf(c, awards)
+		if reportsOf(c, awards) != reports || !slices.Equal(memoryOfClaims, before[0]) || !slices.Equal(memoryOfAwards, before[1]) {
+			t.Fatal("an argument is written to", r, reports, memories)
 		}
-		for i := range args {
-			if !slices.Equal(args[i], before[i]) {
-				t.Fatal("an argument is written to", r, i, args[i])
-			}
-		}
-		if reportsOf(c, awards) != reports {
-			t.Fatal("called again", r, reports)
-		}
-		for i := range args {
-			spoil(args[i])
-		}
-		for i := range second {
-			if !slices.Equal(second[i], want[i]) {
-				t.Fatal("a result shares memory", r, i, second[i], want[i])
-			}
-		}
+		checkNewMemory(t, r, len(claims), memories, func() [][]int { return shareRowsOf(c, awards) })
 	}
 }
 

@@ -85,13 +85,6 @@ func TestNoArgumentPanicsInChapter4(t *testing.T) {
 	numbers := []int{math.MinInt, -1 << 32, -13, -1, 0, 0, 1, 2, 3, 4, 5, 12, 13, 48, 96, 576, 577, 1 << 32, 1 << 62, math.MaxInt}
 	d := draws(25)
 	number := func() int { return numbers[d.below(len(numbers))] }
-	drawn := func() []int {
-		row := make([]int, d.below(7))
-		for i := range row {
-			row[i] = number()
-		}
-		return row
-	}
 	for range 200000 {
 		first, second, estate := number(), number(), number()
 		if min(first, second, estate) < 0 || max(first, second) > 576 || estate > first+second {
@@ -99,8 +92,8 @@ func TestNoArgumentPanicsInChapter4(t *testing.T) {
 		} else {
 			checkPair(t, first, second, estate)
 		}
-		c := caseOf(number(), drawn()...)
-		row := drawn()
+		c := caseOf(number(), drawnRow(&d, numbers)...)
+		row := drawnRow(&d, numbers)
 		if !impl.AwardsOk(c, row) {
 			wantNoPairs(t, c, row)
 			continue

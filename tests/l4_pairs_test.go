@@ -110,18 +110,23 @@ func TestWhatOneLeavesTheOtherOneGets(t *testing.T) {
 	}
 }
 
-// halvesOf returns the awards that are told by half claims: even awards on these, and beyond half of all claims the awards of which the losses are such. They alone agree for each two people.
-func halvesOf(c impl.Case) []int {
-	halves := make([]int, len(c.Claims))
-	for i, claim := range c.Claims {
-		halves[i] = 24 * claim
+// halvesOf returns the awards that are told by half claims, and their level, or beyond half of all claims that of the losses. They alone agree for each two people. Each whole level up to half of MaxClaim is tried.
+func halvesOf(c impl.Case) ([]int, int) {
+	row, parts := make([]int, len(c.Claims)), inParts(c.Claims)
+	given := min(48*c.Estate, total(parts)-48*c.Estate)
+	for level := range 289 {
+		for i, claim := range parts {
+			row[i] = min(claim/2, level)
+		}
+		if total(row) != given {
+			continue
+		}
+		if given < 48*c.Estate {
+			return less(parts, row), level
+		}
+		return row, level
 	}
-	if 2*c.Estate <= total(c.Claims) {
-		row, _ := impl.EvenRow(halves, 48*c.Estate)
-		return row
-	}
-	row, _ := impl.EvenRow(halves, 48*(total(c.Claims)-c.Estate))
-	return less(inParts(c.Claims), row)
+	return nil, -1
 }
 
 // pairsByDefinition tells anew, from the sentence of the document, whether awards of a case agree for each two people.
@@ -217,7 +222,8 @@ func TestEachPairIsAsked(t *testing.T) {
 func checkPairs(t *testing.T, c impl.Case, awards []int) bool {
 	t.Helper()
 	agree := impl.PairsOk(c, awards)
-	if agree != pairsByDefinition(c, awards) || agree != slices.Equal(awards, halvesOf(c)) {
+	halves, _ := halvesOf(c)
+	if agree != pairsByDefinition(c, awards) || agree != slices.Equal(awards, halves) {
 		t.Fatal(c, awards, agree)
 	}
 	other, _ := impl.OtherCase(c)
@@ -234,7 +240,7 @@ func checkPairs(t *testing.T, c impl.Case, awards []int) bool {
 func TestLossesAgreeWhereAwardsDo(t *testing.T) {
 	d := draws(26)
 	for _, c := range validCases() {
-		halves := halvesOf(c)
+		halves, _ := halvesOf(c)
 		if !impl.AwardsOk(c, halves) || !checkPairs(t, c, halves) {
 			t.Fatal(c, halves)
 		}
@@ -273,7 +279,7 @@ func TestAllAwardsOfSmallCasesAgreeWithLosses(t *testing.T) {
 func TestNamesChangeNoPairs(t *testing.T) {
 	d := draws(28)
 	for _, c := range validCases() {
-		awards := halvesOf(c)
+		awards, _ := halvesOf(c)
 		if d.below(2) == 0 {
 			awards = drawnAwards(&d, c)
 		}

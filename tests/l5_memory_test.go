@@ -1,0 +1,57 @@
+package tests
+
+import (
+	"slices"
+	"testing"
+
+	"loop.example/shortestates/impl"
+)
+
+// midOf returns what MidOk reports of awards, and HalfLevel of the case.
+func midOf(c impl.Case, awards []int) (bool, int) {
+	return impl.MidOk(c, awards), impl.HalfLevel(c)
+}
+
+// Nothing is written to the memory of claims and awards, also behind their ends, up to half of all claims and beyond.
+func TestHalvesAreNewMemory(t *testing.T) {
+	for _, r := range halfCases() {
+		claims, memoryOfClaims := guarded(r.of.Claims...)
+		awards, memoryOfAwards := guarded(r.awards...)
+		memories := [][]int{memoryOfClaims, memoryOfAwards}
+		before := cloneRows(memories)
+		c := caseOf(r.of.Estate, claims...)
+		for range 2 {
+			if mid, level := midOf(c, awards); !mid || level != r.level {
+				t.Fatal(r, mid, level)
+			}
+		}
+		if !slices.Equal(memoryOfClaims, before[0]) || !slices.Equal(memoryOfAwards, before[1]) {
+			t.Fatal("an argument is written to", r, memories)
+		}
+		checkNewMemory(t, r, len(claims), memories, func() [][]int { return [][]int{impl.HalfAwards(c)} })
+	}
+}
+
+// No call writes to its arguments, whatever they are, nor returns anything else when called again.
+func TestArgumentsOfChapter5Stay(t *testing.T) {
+	d := draws(34)
+	for _, c := range append(validCases(), invalidCases()...) {
+		before := copyOf(c)
+		awards := []int{48 * d.below(3), 48 * d.below(3), 48 * d.below(3)}
+		if impl.CaseOk(c) {
+			awards = drawnAwards(&d, c)
+		}
+		awardsBefore := slices.Clone(awards)
+		halves := impl.HalfAwards(c)
+		mid, level := midOf(c, awards)
+		if again := impl.HalfAwards(c); !slices.Equal(again, halves) {
+			t.Fatal("called again", c, halves, again)
+		}
+		if midAgain, levelAgain := midOf(c, awards); midAgain != mid || levelAgain != level {
+			t.Fatal("called again", c, awards, mid, level)
+		}
+		if !sameCase(c, before) || !slices.Equal(awards, awardsBefore) {
+			t.Fatal("an argument is written to", before, c, awardsBefore, awards)
+		}
+	}
+}
