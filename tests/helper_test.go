@@ -2,6 +2,7 @@ package tests
 
 import (
 	"math"
+	"reflect"
 	"slices"
 	"testing"
 
@@ -145,14 +146,14 @@ func drawnRow(d *draws, numbers []int) []int {
 	return row
 }
 
-// checkNewMemory checks of a call that returns rows, one number for each person, that spoiled results change neither the memory of its arguments nor other results, and that arguments that change later change no results.
-func checkNewMemory(t *testing.T, what any, people int, memories [][]int, call func() [][]int) {
+// checkNewMemory checks of a call that returns rows of so many numbers that spoiled results change neither the memory of its arguments nor other results, and that arguments that change later change no results.
+func checkNewMemory(t *testing.T, what any, numbers int, memories [][]int, call func() [][]int) {
 	t.Helper()
 	before := cloneRows(memories)
 	want := cloneRows(call())
 	first, second := call(), call()
 	for i := range first {
-		if len(first[i]) != people || !slices.Equal(first[i], want[i]) {
+		if len(first[i]) != numbers || !slices.Equal(first[i], want[i]) {
 			t.Fatal(what, i, first[i], want[i])
 		}
 		spoil(first[i])
@@ -166,6 +167,26 @@ func checkNewMemory(t *testing.T, what any, people int, memories [][]int, call f
 	for i := range second {
 		if !slices.Equal(second[i], want[i]) {
 			t.Fatal("a result shares memory", what, i, second[i], want[i])
+		}
+	}
+}
+
+// checkArgumentsStay checks of a call that it writes to no claims and awards, of cases and others, and that it tells the same when called again.
+func checkArgumentsStay(t *testing.T, d draws, call func(c impl.Case, awards []int) any) {
+	t.Helper()
+	for _, c := range append(validCases(), invalidCases()...) {
+		before := copyOf(c)
+		awards := []int{48 * d.below(3), 48 * d.below(3), 48 * d.below(3)}
+		if impl.CaseOk(c) {
+			awards = drawnAwards(&d, c)
+		}
+		awardsBefore := slices.Clone(awards)
+		first, second := call(c, awards), call(c, awards)
+		if !sameCase(c, before) || !slices.Equal(awards, awardsBefore) {
+			t.Fatal("an argument is written to", before, c, awardsBefore, awards)
+		}
+		if !reflect.DeepEqual(first, second) {
+			t.Fatal("called again", c, awards, first, second)
 		}
 	}
 }

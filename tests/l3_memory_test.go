@@ -40,28 +40,8 @@ func TestSharesAreNewMemory(t *testing.T) {
 	}
 }
 
-// No call writes to its arguments, whatever they are, nor returns anything else when called again.
 func TestArgumentsOfChapter3Stay(t *testing.T) {
-	d := draws(23)
-	for _, c := range append(validCases(), invalidCases()...) {
-		before := copyOf(c)
-		awards := []int{48 * d.below(3), 48 * d.below(3), 48 * d.below(3)}
-		if impl.CaseOk(c) {
-			awards = drawnAwards(&d, c)
-		}
-		awardsBefore := slices.Clone(awards)
-		first, reports := shareRowsOf(c, awards), reportsOf(c, awards)
-		second := shareRowsOf(c, awards)
-		if !sameCase(c, before) || !slices.Equal(awards, awardsBefore) {
-			t.Fatal("an argument is written to", before, c, awardsBefore, awards)
-		}
-		for i := range first {
-			if !slices.Equal(first[i], second[i]) {
-				t.Fatal("called again", c, awards, first[i], second[i])
-			}
-		}
-		if reports != reportsOf(c, awards) {
-			t.Fatal("called again", c, awards, reports)
-		}
-	}
+	checkArgumentsStay(t, 23, func(c impl.Case, awards []int) any {
+		return []any{shareRowsOf(c, awards), reportsOf(c, awards)}
+	})
 }

@@ -32,26 +32,9 @@ func TestHalvesAreNewMemory(t *testing.T) {
 	}
 }
 
-// No call writes to its arguments, whatever they are, nor returns anything else when called again.
 func TestArgumentsOfChapter5Stay(t *testing.T) {
-	d := draws(34)
-	for _, c := range append(validCases(), invalidCases()...) {
-		before := copyOf(c)
-		awards := []int{48 * d.below(3), 48 * d.below(3), 48 * d.below(3)}
-		if impl.CaseOk(c) {
-			awards = drawnAwards(&d, c)
-		}
-		awardsBefore := slices.Clone(awards)
-		halves := impl.HalfAwards(c)
+	checkArgumentsStay(t, 34, func(c impl.Case, awards []int) any {
 		mid, level := midOf(c, awards)
-		if again := impl.HalfAwards(c); !slices.Equal(again, halves) {
-			t.Fatal("called again", c, halves, again)
-		}
-		if midAgain, levelAgain := midOf(c, awards); midAgain != mid || levelAgain != level {
-			t.Fatal("called again", c, awards, mid, level)
-		}
-		if !sameCase(c, before) || !slices.Equal(awards, awardsBefore) {
-			t.Fatal("an argument is written to", before, c, awardsBefore, awards)
-		}
-	}
+		return []any{impl.HalfAwards(c), mid, level}
+	})
 }
