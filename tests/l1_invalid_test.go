@@ -67,25 +67,32 @@ func TestInvalidCasesWithOrdersAndAwards(t *testing.T) {
 	}
 }
 
+// noOrders has a case, and rows that are not orders of its people.
+type noOrders struct {
+	of   impl.Case
+	rows [][]int
+}
+
+func invalidOrders() []noOrders {
+	return []noOrders{
+		{caseOf(5, 2, 4, 6), [][]int{
+			nil, {}, {0}, {0, 1}, {1, 2}, {0, 1, 2, 3}, {0, 1, 2, 0}, {0, 1, 2, 2}, make([]int, 1000),
+			{0, 0, 0}, {0, 0, 1}, {0, 1, 1}, {2, 1, 2}, {1, 2, 1}, {0, 0, 3},
+			{1, 2, 3}, {3, 1, 2}, {0, 1, 3}, {-1, 0, 1}, {0, 1, -1}, {2, -2, 0}, {0, 1, 4},
+			{math.MinInt, 1, 2}, {0, math.MaxInt, 1}, {0, 1, math.MinInt}, {1 << 32, 1, 2}, {0, 1, 1<<32 + 2},
+		}},
+		{caseOf(0, 0), [][]int{nil, {}, {1}, {-1}, {0, 0}, {0, 1}, {math.MaxInt}, {math.MinInt}, {1 << 32}}},
+		{caseOf(3, 2, 4), [][]int{nil, {0}, {1}, {0, 0}, {1, 1}, {1, 2}, {2, 0}, {0, -1}, {-1, 1}, {0, 1, 2}, {1, 0, 0}}},
+		{caseOf(48, 12, 12, 12, 12), [][]int{{0, 1, 2}, {0, 1, 2, 4}, {1, 2, 3, 4}, {0, 1, 2, 3, 4}, {3, 3, 3, 3}, {0, 1, 2, -1}, {0, 1, 2, 2}}},
+	}
+}
+
 func TestInvalidOrders(t *testing.T) {
-	c := caseOf(5, 2, 4, 6)
-	for _, order := range [][]int{
-		nil, {}, {0}, {0, 1}, {1, 2}, {0, 1, 2, 3}, {0, 1, 2, 0}, {0, 1, 2, 2}, make([]int, 1000),
-		{0, 0, 0}, {0, 0, 1}, {0, 1, 1}, {2, 1, 2}, {1, 2, 1}, {0, 0, 3},
-		{1, 2, 3}, {3, 1, 2}, {0, 1, 3}, {-1, 0, 1}, {0, 1, -1}, {2, -2, 0}, {0, 1, 4},
-		{math.MinInt, 1, 2}, {0, math.MaxInt, 1}, {0, 1, math.MinInt}, {1 << 32, 1, 2}, {0, 1, 1<<32 + 2},
-	} {
-		named, ok := impl.NamedCase(c, order)
-		wantNoCase(t, "named", c, named, ok)
-	}
-	for _, order := range [][]int{nil, {}, {1}, {-1}, {0, 0}, {0, 1}, {math.MaxInt}} {
-		named, ok := impl.NamedCase(caseOf(0, 0), order)
-		wantNoCase(t, "named", caseOf(0, 0), named, ok)
-	}
-	for _, order := range [][]int{{0, 1, 2}, {0, 1, 2, 4}, {1, 2, 3, 4}, {0, 1, 2, 3, 4}, {3, 3, 3, 3}} {
-		c := caseOf(48, 12, 12, 12, 12)
-		named, ok := impl.NamedCase(c, order)
-		wantNoCase(t, "named", c, named, ok)
+	for _, r := range invalidOrders() {
+		for _, order := range r.rows {
+			named, ok := impl.NamedCase(r.of, order)
+			wantNoCase(t, "named", r.of, named, ok)
+		}
 	}
 }
 
