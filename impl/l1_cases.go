@@ -17,14 +17,9 @@ type Case struct {
 
 // CaseOk reports whether a case has 1..MaxClaimants claims, each in 0..MaxClaim, and an estate from 0 up to all claims together.
 func CaseOk(c Case) bool {
-	if len(c.Claims) < 1 || len(c.Claims) > MaxClaimants {
-		return false
-	}
 	// Each claim is bounded before the claims are summed, so that no sum wraps around.
-	for _, claim := range c.Claims {
-		if claim < 0 || claim > MaxClaim {
-			return false
-		}
+	if len(c.Claims) < 1 || len(c.Claims) > MaxClaimants || !allUpTo(MaxClaim, c.Claims) {
+		return false
 	}
 	return c.Estate >= 0 && c.Estate <= sumOf(c.Claims)
 }
@@ -127,6 +122,16 @@ func sumOf(row []int) int {
 		sum += number
 	}
 	return sum
+}
+
+// allUpTo reports whether each number of a row is from 0 up to a greatest one.
+func allUpTo(greatest int, row []int) bool {
+	for _, number := range row {
+		if number < 0 || number > greatest {
+			return false
+		}
+	}
+	return true
 }
 
 // isOrder reports whether an order has each number from 0 on, and less than the people, once.

@@ -153,9 +153,9 @@ func TestCutClaimsAndRightsChangeNothingOfArrivals(t *testing.T) {
 	}
 }
 
-// placedBy returns the numbers of the people of a case at the places that an order tells.
-func placedBy(row, order []int) []int {
-	placed := make([]int, len(row))
+// placedBy returns a row, of what there is for each person, with each person at the place that an order tells.
+func placedBy[E any](row []E, order []int) []E {
+	placed := make([]E, len(row))
 	for person, place := range order {
 		placed[place] = row[person]
 	}

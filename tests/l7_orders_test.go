@@ -17,9 +17,9 @@ func orderByUnits(c impl.Case, order []int) []int {
 	return awards
 }
 
-// fromBehind returns an order from the last one to the first one.
-func fromBehind(order []int) []int {
-	behind := slices.Clone(order)
+// fromBehind returns a row, of an order or of others, from the last one to the first one.
+func fromBehind[E any](row []E) []E {
+	behind := slices.Clone(row)
 	slices.Reverse(behind)
 	return behind
 }
