@@ -18,7 +18,7 @@ type Case struct {
 // CaseOk reports whether a case has 1..MaxClaimants claims, each in 0..MaxClaim, and an estate from 0 up to all claims together.
 func CaseOk(c Case) bool {
 	// Each claim is bounded before the claims are summed, so that no sum wraps around.
-	if len(c.Claims) < 1 || len(c.Claims) > MaxClaimants || !allUpTo(MaxClaim, c.Claims) {
+	if !eachPersonUpTo(MaxClaim, c.Claims) {
 		return false
 	}
 	return c.Estate >= 0 && c.Estate <= sumOf(c.Claims)
@@ -122,6 +122,11 @@ func sumOf(row []int) int {
 		sum += number
 	}
 	return sum
+}
+
+// eachPersonUpTo reports whether a row has a number for each of 1..MaxClaimants people, from 0 up to a greatest one.
+func eachPersonUpTo(greatest int, row []int) bool {
+	return len(row) >= 1 && len(row) <= MaxClaimants && allUpTo(greatest, row)
 }
 
 // allUpTo reports whether each number of a row is from 0 up to a greatest one.
