@@ -105,6 +105,22 @@ func ordersOf(people int) [][]int {
 	return orders
 }
 
+// meansOver returns for each person the mean, over some orders, of what a row has for the person in the order, and whether all of these are whole.
+func meansOver(orders [][]int, rowOf func(order []int) []int) ([]int, bool) {
+	means := make([]int, len(orders[0]))
+	for _, order := range orders {
+		for person, number := range rowOf(order) {
+			means[person] += number
+		}
+	}
+	whole := true
+	for person, sum := range means {
+		whole = whole && sum%len(orders) == 0
+		means[person] = sum / len(orders)
+	}
+	return means, whole
+}
+
 // drawnAwards returns drawn awards of a case: the estate is given away in an order, and then parts are moved about.
 func drawnAwards(d *draws, c impl.Case) []int {
 	people := len(c.Claims)

@@ -39,18 +39,7 @@ func costsAsTheyCome(needs, order []int) []int {
 
 // meansByDefinition tells anew, from the sentence of the document, the mean of what the runway costs more for each person, over some orders, and whether it is whole.
 func meansByDefinition(needs []int, orders [][]int) ([]int, bool) {
-	sums := make([]int, len(needs))
-	for _, order := range orders {
-		for person, cost := range costsAsTheyCome(needs, order) {
-			sums[person] += cost
-		}
-	}
-	whole := true
-	for person, sum := range sums {
-		whole = whole && sum%len(orders) == 0
-		sums[person] = sum / len(orders)
-	}
-	return sums, whole
+	return meansOver(orders, func(order []int) []int { return costsAsTheyCome(needs, order) })
 }
 
 // greatestOf returns the first person with the greatest need.

@@ -9,19 +9,7 @@ import (
 
 // arrivalsByDefinition tells anew, from the sentence of the document, the mean of what people get over all orders, and whether it is whole.
 func arrivalsByDefinition(c impl.Case) ([]int, bool) {
-	sums := make([]int, len(c.Claims))
-	orders := ordersOf(len(c.Claims))
-	for _, order := range orders {
-		for person, award := range orderByUnits(c, order) {
-			sums[person] += award
-		}
-	}
-	whole := true
-	for person, sum := range sums {
-		whole = whole && sum%len(orders) == 0
-		sums[person] = sum / len(orders)
-	}
-	return sums, whole
+	return meansOver(ordersOf(len(c.Claims)), func(order []int) []int { return orderByUnits(c, order) })
 }
 
 // sharesByDefinition tells anew, from the sentence of the document, the shares of the game, and whether they are whole.
